@@ -19,14 +19,14 @@ func boardsByStep(t *testing.T, step int) []impl.Board {
 }
 
 // neighborTable has the neighbours of all points of boards of all sizes.
-var neighborTable = makeNeighborTable()
+var neighborTable = makePointTable(modelNeighbors)
 
-// makeNeighborTable returns the neighbours of all points, by size and point.
-func makeNeighborTable() [impl.MaxSize + 1][][]int {
+// makePointTable returns the lists of points that belong to all points, by size and point.
+func makePointTable(listOf func(size int, p int) []int) [impl.MaxSize + 1][][]int {
 	var table [impl.MaxSize + 1][][]int
 	forSizes(func(size int) {
 		for p := range pointsOf(size) {
-			table[size] = append(table[size], modelNeighbors(size, p))
+			table[size] = append(table[size], listOf(size, p))
 		}
 	})
 	return table
